@@ -1,5 +1,6 @@
-"""The machine: what it keeps, and what may be put into it."""
+"""The machine: what it keeps, what may be put into it, and what is told and taken out of it."""
 
+from oldmachine.bits import ACCUMULATOR_WIDTH, LONG_WIDTH, bits_of
 from oldmachine.letters import NoProgram, program_words
 
 REFUSED = -1
@@ -10,6 +11,8 @@ LONGEST_TEXT = 16384
 LONGEST_PIECE = 4096
 TAPE_SIGNS_BELOW = 32
 LONGEST_TAPE = 65536
+MOST_TAKEN = 65536
+LOWER_WIDTH = 64
 
 
 class Machine:
@@ -69,6 +72,42 @@ class Machine:
         self.next_place = place
         self.stopped = False
         return 0
+
+    def long_word(self, place):
+        even = place - place % 2
+        return self.short_words[even] + (self.bits_between[place // 2] << 17) + (self.short_words[even + 1] << 18)
+
+    def put_long_word(self, place, word):
+        even = place - place % 2
+        self.short_words[even] = word % WORDS_BELOW
+        self.bits_between[place // 2] = word >> 17 & 1
+        self.short_words[even + 1] = word >> 18
+
+    def take(self, most):
+        if not 1 <= most <= MOST_TAKEN:
+            return [0]
+        taken = self.printed[:most]
+        self.printed = self.printed[most:]
+        return [len(taken)] + taken
+
+    def look(self, place, wide):
+        if not 0 <= place < PLACES:
+            return [REFUSED]
+        if wide == 0:
+            return [0, self.short_words[place]]
+        return [0, self.long_word(place)]
+
+    def tell_registers(self):
+        accumulator = bits_of(self.accumulator, ACCUMULATOR_WIDTH)
+        return [
+            1 if self.stopped else 0,
+            bits_of(accumulator, LOWER_WIDTH),
+            accumulator >> LOWER_WIDTH,
+            bits_of(self.multiplier, LONG_WIDTH),
+            self.next_place,
+            len(self.tape),
+            len(self.printed),
+        ]
 
 
 def have_places(at, many):

@@ -1,12 +1,17 @@
 """The interface: a list of calls on one new machine, and the list of their answers."""
 
 from oldmachine.machine import Machine
+from oldmachine.steps import run
 
 BEGIN = 0
 WORDS = 1
 ORDERS = 2
 TAPE = 3
 START = 4
+RUN = 5
+TAKE = 6
+LOOK = 7
+REGISTERS = 8
 
 
 class UnknownCall(Exception):
@@ -60,6 +65,14 @@ def answer_call(machine, reader):
         return answer_tape(machine, reader)
     if call == START:
         return [machine.start_at(reader.next_number())]
+    if call == RUN:
+        return run(machine, reader.next_number())
+    if call == TAKE:
+        return machine.take(reader.next_number())
+    if call == LOOK:
+        return answer_look(machine, reader)
+    if call == REGISTERS:
+        return machine.tell_registers()
     # Without a known form, where the next call begins can't be told.
     raise UnknownCall(f"no call has the number {call}")
 
@@ -82,3 +95,9 @@ def answer_tape(machine, reader):
     n = reader.next_number()
     signs = reader.next_row()
     return [machine.lay_tape(n, signs)]
+
+
+def answer_look(machine, reader):
+    at = reader.next_number()
+    wide = reader.next_number()
+    return machine.look(at, wide)

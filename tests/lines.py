@@ -1,7 +1,7 @@
 """Calls in the form that oldmachine.store.answers takes, for the tests."""
 
 from oldmachine.machine import Machine
-from oldmachine.store import answers_of
+from oldmachine.store import answers, answers_of
 
 SIGNS = ["P", "Q", "W", "E", "R", "T", "Y", "U", "I", "O", "J", "#", "S", "Z", "K", "*",
          ".", "F", "@", "D", "!", "H", "N", "M", "&", "L", "X", "G", "A", "B", "C", "V"]
@@ -31,8 +31,42 @@ def start(at):
     return [4, at]
 
 
+def run(steps):
+    return [5, steps]
+
+
+def take(most):
+    return [6, most]
+
+
+def look(at, wide=0):
+    return [7, at, wide]
+
+
+def registers():
+    return [8]
+
+
 def line(*calls):
     return [number for call in (begin(),) + calls for number in call]
+
+
+def split(given):
+    """The answers of a line, each as a list of its own."""
+    answered = []
+    position = 0
+    while position < len(given):
+        answered.append(given[position + 1:position + 1 + given[position]])
+        position += 1 + given[position]
+    assert position == len(given), given
+    return answered
+
+
+def told(*calls):
+    """The answers of a line of these calls, each as a list of its own, without begin's."""
+    first, *others = split(answers(line(*calls)))
+    assert first == [0] and len(others) == len(calls), (first, others)
+    return others
 
 
 def done(*calls):

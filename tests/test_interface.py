@@ -23,6 +23,14 @@ class InterfaceTest(unittest.TestCase):
         self.assertEqual(answers([0, 2, 5, 3, 3, 65, 49, 70]), [1, 0, 1, 1])
         self.assertEqual(answers([0, 3, 2, 2, 8, 9]), [1, 0, 1, 2])
         self.assertEqual(answers([0, 4, 5]), [1, 0, 1, 0])
+        self.assertEqual(answers([0, 5, 0]), [1, 0, 2, 0, 0])
+        self.assertEqual(answers([0, 5, -1]), [1, 0, 1, -1])
+        self.assertEqual(answers([0, 6, 5]), [1, 0, 1, 0])
+        self.assertEqual(answers([0, 7, 5, 0]), [1, 0, 2, 0, 0])
+        self.assertEqual(answers([0, 7, -1, 0]), [1, 0, 1, -1])
+        self.assertEqual(answers([0, 8]), [1, 0, 7, 0, 0, 0, 0, 0, 0, 0])
+        # An O prints its own sign, 9, and a P is no order.
+        self.assertEqual(answers([0, 1, 0, 1, 1, 36864, 5, 2, 6, 3]), [1, 0, 1, 0, 2, 3, 1, 2, 1, 9])
 
     def test_an_answer_for_each_call(self):
         self.assertEqual(answers(LINE), ANSWERS)
